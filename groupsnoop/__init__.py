@@ -1,0 +1,1 @@
+"""Groups joined by hosts and snooped by a switch."""
