@@ -1,4 +1,4 @@
-"""The calls of the bag: deliver, lose."""
+"""The calls of the bag: deliver, lose, double."""
 
 from groupsnoop.handing import hand_over
 
@@ -15,4 +15,14 @@ def call_lose(net, place):
     if not net.has_message(place):
         return [-1]
     net.bag.pop(place)
+    return [0]
+
+
+def call_double(net, place):
+    if not net.has_message(place):
+        return [-1]
+    if net.bag_is_full():
+        return [-2]
+    # A message never changes, so the bag may hold it twice.
+    net.bag.append(net.bag[place])
     return [0]

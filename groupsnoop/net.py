@@ -28,11 +28,17 @@ class Net:
     def has_message(self, place):
         return 0 <= place < len(self.bag)
 
+    def bag_is_full(self):
+        return len(self.bag) >= self.most_messages
+
     def send(self, message):
-        if len(self.bag) >= self.most_messages:
+        if self.bag_is_full():
             self.lost += 1
         else:
             self.bag.append(message)
+
+    def rest_of(self, until):
+        return max(0, until - self.now)
 
     def hosts_at(self, port):
         return [self.hosts[number] for number in sorted(self.hosts) if self.hosts[number].port == port]

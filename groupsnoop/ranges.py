@@ -5,6 +5,7 @@ LAST_GROUP = 268435455
 LAST_SOURCE = 4294967295
 LAST_TIME = 4611686018427387904
 
+LAST_LOCAL_GROUP = 255
 LAST_HOST = 65535
 MOST_HOSTS = 256
 MOST_GROUPS_OF_HOST = 64
@@ -17,6 +18,10 @@ MOST_ENTRIES = 4096
 
 def is_group(number):
     return 0 <= number <= LAST_GROUP
+
+
+def is_local(group):
+    return group <= LAST_LOCAL_GROUP
 
 
 # Also asked of an asker's number: it has the range of a source.

@@ -1,5 +1,11 @@
 """The switch and what it keeps."""
 
+from groupsnoop.ranges import is_local
+from groupsnoop.wants import EVERYTHING
+from groupsnoop.wants import NOTHING
+from groupsnoop.wants import has_source
+from groupsnoop.wants import merged
+
 
 class Entry:
     def __init__(self, port, serial, want, until):
@@ -33,6 +39,31 @@ class Switch:
 
     def may_ask(self, now):
         return self.silent <= now and self.next_query <= now
+
+    # Fixed ports stay: they were told, not heard.
+    def forget(self):
+        self.entries.clear()
+        self.plain.clear()
+        self.heard.clear()
+        self.silent = 0
+        self.next_query = 0
+
+    def record(self, port, group):
+        wants = [self.entries[key].want for key in self.entries if key[0] == group and self.entries[key].port == port]
+        if (port, group) in self.plain:
+            wants.append(EVERYTHING)
+        return merged(wants)
+
+    # An entry may want nothing, so a group that has one need not be wanted.
+    def groups_wanted(self, port):
+        groups = [key[0] for key in self.entries if self.entries[key].port == port]
+        groups.extend([key[1] for key in self.plain if key[0] == port])
+        return [group for group in sorted(set(groups)) if self.record(port, group) != NOTHING]
+
+    def gives(self, port, group, source):
+        if is_local(group) or port in self.fixed or port in self.heard:
+            return True
+        return has_source(self.record(port, group), source)
 
 
 def drop_past(times, now):

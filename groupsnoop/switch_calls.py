@@ -1,4 +1,4 @@
-"""The calls of the switch: join, leave, foreign, asker, tick."""
+"""The calls of the switch: join, leave, foreign, asker, tick, ask, restart."""
 
 from groupsnoop.messages import ALL_GROUPS
 from groupsnoop.messages import Query
@@ -70,4 +70,18 @@ def call_tick(net, n):
         switch.next_query = net.now + net.every
         for port in range(net.ports):
             net.send(Query(port, ALL_GROUPS))
+    return [0]
+
+
+def call_ask(net, port, group):
+    if not net.has_port(port):
+        return [-1]
+    if group != ALL_GROUPS and not is_group(group):
+        return [-2]
+    net.send(Query(port, group))
+    return [0]
+
+
+def call_restart(net):
+    net.switch.forget()
     return [0]

@@ -2,6 +2,7 @@
 
 from groupsnoop.line import Line
 from groupsnoop.messages import Report
+from groupsnoop.wire import answers
 from groupsnoop.wire import run
 
 LOW = -(2 ** 63)
@@ -9,6 +10,8 @@ HIGH = 2 ** 63 - 1
 
 NAMES = (
     "begin", "host", "unhost", "want", "more", "less", "join", "leave", "foreign", "asker", "tick", "deliver", "lose",
+    "double", "ask", "restart", "frame", "record", "upward", "entry", "hostof", "bag", "groups", "merge", "steps",
+    "counts",
 )
 
 
@@ -38,6 +41,14 @@ class Driver:
         if answer != [0]:
             raise AssertionError(f"{name}{arguments} answered {answer}")
         return self
+
+    def look(self, name, *arguments):
+        """The answer of a call that is to change nothing."""
+        before = self.state()
+        answer = self.call(name, *arguments)
+        if self.state() != before:
+            raise AssertionError(f"{name}{arguments} changed something")
+        return answer
 
     def bag(self):
         return [shown_message(message) for message in self.net.bag]
@@ -74,6 +85,14 @@ class Driver:
         }
 
 
+def with_entries(*told, **begun):
+    """Each told is (host, port, mode, sources) of group 300; its report is delivered."""
+    driver = Driver(**begun)
+    for host, port, mode, sources in told:
+        driver.ok("host", host, port).ok("want", host, 300, mode, sources).ok("deliver", 0)
+    return driver
+
+
 def flat(name, *arguments):
     numbers = [NAMES.index(name)]
     for argument in arguments:
@@ -83,6 +102,16 @@ def flat(name, *arguments):
         else:
             numbers.append(argument)
     return numbers
+
+
+def answered(line):
+    """The answers to a line of (name, arguments ...), each as a list of its own."""
+    given = answers(sum((flat(*call) for call in line), []))
+    found = []
+    while given:
+        found.append(given[1:given[0] + 1])
+        given = given[given[0] + 1:]
+    return found
 
 
 def shown_message(message):

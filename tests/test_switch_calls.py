@@ -197,3 +197,101 @@ class RoomOfBoth(unittest.TestCase):
         driver.ok("want", 3, 301, 0, [7]).ok("deliver", 0).ok("join", 0, 300)
         self.assertEqual(driver.call("join", 0, 301), [1])
         self.assertEqual(driver.entry(301, 3), (0, 1, only(7), 10))
+
+
+class Ask(unittest.TestCase):
+    def test_a_query_is_sent(self):
+        driver = Driver(ports=3).ok("ask", 2, 300).ok("ask", 0, -1).ok("ask", 2, 300)
+        self.assertEqual(driver.bag(), [("query", 2, 300), ("query", 0, -1), ("query", 2, 300)])
+
+    def test_it_changes_nothing_else(self):
+        driver = Driver(me=9).ok("foreign", 0, 3).ok("join", 1, 300)
+        wanted = driver.state()
+        wanted["bag"] = [("query", 1, 300)]
+        self.assertEqual(driver.ok("ask", 1, 300).state(), wanted)
+
+    def test_edges_that_are_taken(self):
+        for port in (0, 2):
+            for group in (-1, 0, 255, 256, LAST_GROUP):
+                self.assertEqual(Driver(ports=3).ok("ask", port, group).bag(), [("query", port, group)])
+
+    def test_refusals(self):
+        refusals(self, Driver(ports=3), "ask", [
+            ((-1, 300), -1), ((3, 300), -1), ((LOW, 300), -1), ((HIGH, -1), -1),
+            ((0, -2), -2), ((0, LAST_GROUP + 1), -2), ((0, LOW), -2), ((0, HIGH), -2),
+            ((3, -2), -1), ((-1, LAST_GROUP + 1), -1),
+        ])
+
+    def test_with_the_bag_full(self):
+        driver = Driver(bag=1).ok("ask", 0, 300).ok("ask", 1, 301)
+        self.assertEqual(driver.bag(), [("query", 0, 300)])
+        self.assertEqual(driver.net.lost, 1)
+        refusals(self, driver, "ask", [((2, 300), -1), ((0, -2), -2)])
+
+    def test_delivered_the_hosts_retell(self):
+        driver = Driver().ok("host", 3, 0).ok("want", 3, 301, 0, [7]).ok("want", 3, 300, 1, []).empty_bag()
+        driver.ok("ask", 0, 301).ok("ask", 0, -1).ok("ask", 1, -1).ok("ask", 0, 302)
+        for times in range(4):
+            driver.ok("deliver", 0)
+        self.assertEqual(driver.look("bag"), [
+            0, 3,
+            0, 3, 0, 301, 2, 0, 0, 0, 1, 7,
+            0, 3, 0, 300, 2, 0, 0, 1, 0,
+            0, 3, 0, 301, 3, 0, 0, 0, 1, 7,
+        ])
+        self.assertEqual(driver.look("hostof", 3), [0, 0, 2, 300, 2, 1, 0, 301, 3, 0, 1, 7])
+
+
+class Restart(unittest.TestCase):
+    def busy_driver(self):
+        driver = Driver(ports=3, me=9, bag=4, entries=2).ok("host", 3, 0).ok("want", 3, 300, 0, [7]).ok("deliver", 0)
+        driver.ok("join", 1, 301).ok("asker", 2, 1).ok("tick", 1).ok("foreign", 1, 4).ok("more", 3, 300, [8])
+        driver.call("join", 1, 302)
+        return driver.ok("ask", 0, 300)
+
+    def test_the_switch_alone_begins_anew(self):
+        driver = self.busy_driver()
+        wanted = driver.state()
+        for part, content in wanted.items():
+            self.assertTrue(any(content), part)
+        wanted["entries"] = {}
+        wanted["plain"] = {}
+        wanted["heard"] = {}
+        wanted["times"] = (1, 0, 0)
+        self.assertEqual(wanted["counts"], (1, 1))
+        self.assertEqual(driver.ok("restart").state(), wanted)
+        self.assertEqual(driver.ok("restart").state(), wanted)
+
+    def test_seen_through_the_calls(self):
+        driver = self.busy_driver()
+        self.assertEqual(driver.look("counts"), [0, 1, 1, 1, 1, 1, 10, 5, 4])
+        driver.ok("restart")
+        self.assertEqual(driver.look("counts"), [0, 1, 1, 1, 0, 0, 0, 0, 4])
+        self.assertEqual(driver.look("entry", 3, 300), [-1])
+        self.assertEqual(driver.look("upward", 301), [0, 0, 0])
+        self.assertEqual(driver.look("frame", 0, 301, 7), [0, 1, 2, 0])
+        self.assertEqual(driver.look("hostof", 3), [0, 0, 1, 300, 2, 0, 2, 7, 8])
+
+    def test_nothing_there_yet(self):
+        self.assertEqual(Driver().ok("restart").state(), Driver().state())
+
+    def test_the_next_tick_asks(self):
+        driver = Driver(me=9, every=50).ok("tick", 1).empty_bag().ok("foreign", 0, 3).ok("restart").ok("tick", 1)
+        self.assertEqual(driver.bag(), [("query", 0, -1), ("query", 1, -1)])
+        self.assertEqual(driver.look("counts"), [0, 2, 0, 0, 0, 0, 0, 50, 2])
+
+    def test_there_is_room_as_told_by_begin(self):
+        driver = Driver(entries=2).ok("join", 0, 300).ok("join", 0, 301).ok("restart").ok("join", 1, 1).ok("join", 1, 2)
+        self.assertEqual(driver.call("join", 1, 3), [1])
+
+    def test_a_step_upon_what_is_forgotten_asks_back(self):
+        driver = Driver().ok("host", 3, 0).ok("want", 3, 300, 0, [7]).ok("deliver", 0).ok("restart")
+        driver.ok("more", 3, 300, [8]).ok("deliver", 0)
+        self.assertEqual(driver.look("bag"), [0, 1, 1, 0, 300])
+        driver.ok("deliver", 0).ok("deliver", 0)
+        self.assertEqual(driver.look("entry", 3, 300), [0, 0, 3, 10, 0, 2, 7, 8])
+
+    def test_a_late_report_is_taken_behind_it(self):
+        driver = Driver().ok("host", 3, 0).ok("want", 3, 300, 0, [7]).ok("want", 3, 300, 0, [8]).ok("deliver", 1)
+        driver.ok("restart").ok("deliver", 0)
+        self.assertEqual(driver.look("entry", 3, 300), [0, 0, 1, 10, 0, 1, 7])

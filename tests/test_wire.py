@@ -1,8 +1,8 @@
 import unittest
 
 from groupsnoop.line import Line
-from groupsnoop.wire import UnwrittenCall, answers, run
-from tests.helper import flat
+from groupsnoop.wire import answers, run
+from tests.helper import NAMES, flat
 
 BEGIN = [0, 2, 9, 10, 5, 1, 4, 4]
 
@@ -17,16 +17,29 @@ class Untouchable(list):
     __setitem__ = __delitem__ = __iadd__ = __imul__ = refuse
 
 
-LINE = sum((
-    BEGIN, flat("host", 3, 0), flat("want", 3, 300, 0, [7, 8]), flat("deliver", 0), flat("more", 3, 300, [9]),
-    flat("less", 3, 300, []), flat("lose", 1), flat("join", 1, 300), flat("leave", 1, 300), flat("foreign", 1, 3),
-    flat("asker", 1, 1), flat("tick", 4), flat("want", 3, 300, 2, [5, 4]), flat("unhost", 3), flat("deliver", 9),
-), [])
-LINE_ANSWERS = [1, 0] * 12 + [1, -3, 1, 0, 1, -1]
+# Each call with its answer, in a line that has all 26 of them.
+CALLS = (
+    (BEGIN, [0]), (flat("host", 3, 0), [0]), (flat("want", 3, 300, 0, [7, 8]), [0]), (flat("deliver", 0), [0]),
+    (flat("more", 3, 300, [9]), [0]), (flat("less", 3, 300, []), [0]), (flat("lose", 1), [0]),
+    (flat("join", 1, 300), [0]), (flat("leave", 1, 300), [0]), (flat("foreign", 1, 3), [0]),
+    (flat("asker", 1, 1), [0]), (flat("tick", 1), [0]), (flat("want", 3, 300, 2, [5, 4]), [-3]),
+    (flat("double", 0), [0]), (flat("ask", 1, -1), [0]),
+    (flat("bag"), [0, 4, 0, 3, 0, 300, 2, 0, 1, 1, 9, 1, 1, 300, 0, 3, 0, 300, 2, 0, 1, 1, 9, 1, 1, -1]),
+    (flat("frame", 1, 300, 7), [0, 1, 0, 1, 3]), (flat("frame", 0, 300, 7), [0, 1, 1, 0]),
+    (flat("record", 0, 300), [0, 0, 2, 7, 8]), (flat("upward", 300), [0, 0, 2, 7, 8]),
+    (flat("entry", 3, 300), [0, 0, 1, 9, 0, 2, 7, 8]), (flat("unhost", 3), [0]),
+    (flat("hostof", 3), [0, -1, 1, 300, 3, 0, 3, 7, 8, 9]), (flat("groups", 0), [0, 1, 300]),
+    (flat("merge", 0, 1, [1, 2], [2, 3]), [0, 1, 1, 3]), (flat("steps", 0, 1, [], [2, 3]), [0, 1, 0, 1, 2, 2, 3]),
+    (flat("counts"), [0, 1, 0, 0, 1, 0, 9, 0, 4]), (flat("restart"), [0]),
+    (flat("counts"), [0, 1, 0, 0, 0, 0, 0, 0, 4]), (flat("deliver", 9), [-1]),
+)
+LINE = sum((call for call, answer in CALLS), [])
+LINE_ANSWERS = sum(([len(answer)] + answer for call, answer in CALLS), [])
 
 
 class Answers(unittest.TestCase):
     def test_a_line_of_all_calls(self):
+        self.assertEqual({call[0] for call, answer in CALLS}, set(range(len(NAMES))))
         self.assertEqual(answers(list(LINE)), LINE_ANSWERS)
 
     def test_it_gives_back_a_list_of_ints(self):
@@ -86,7 +99,23 @@ class Answers(unittest.TestCase):
             calls += [1, number, number % 64] + [3, number, 300, 1, 1, number] + [10, 1]
         self.assertEqual(answers(calls), [1, 0] * 397)
 
-    def test_a_later_call_is_not_answered_as_if_it_were_written(self):
-        for call in ([13, 0], [15], [23, 0, 1, 1, 1, 1, 2], [25]):
-            with self.assertRaises(UnwrittenCall):
-                answers(BEGIN + call)
+    def test_rows_of_merge_and_steps_stand_one_behind_another(self):
+        for call in (23, 24):
+            for one in ([], [5], list(range(64)), list(range(65)), [3] * 128):
+                for other in ([], [6], list(range(64)), list(range(128))):
+                    calls = BEGIN + [call, 0, 0, len(one)] + one + [len(other)] + other + [25]
+                    given = answers(calls)
+                    self.assertEqual(given[-10:], [9, 0, 0, 0, 0, 0, 0, 0, 0, 0])
+                    if len(one) > 64 or len(other) > 64:
+                        self.assertEqual(given[:-10], [1, 0, 1, -1])
+
+    def test_calls_without_numbers(self):
+        self.assertEqual(answers(BEGIN + [15, 21, 25, 15]), [1, 0, 1, 0, 2, 0, 0, 9] + [0] * 9 + [1, 0])
+
+    def test_a_handed_list_stays_whatever_is_done_with_its_rows(self):
+        line = BEGIN + [1, 3, 0, 3, 3, 300, 0, 2, 7, 8, 4, 3, 300, 1, 9, 23, 0, 1, 2, 1, 2, 2, 2, 3, 24, 0, 0, 1, 1, 0]
+        before = list(line)
+        first = answers(line)
+        self.assertEqual(line, before)
+        self.assertEqual(answers(line), first)
+        self.assertEqual(line, before)
